@@ -1,0 +1,1 @@
+"""Onepolicy: a network's edge under one policy at a time."""

@@ -1,0 +1,246 @@
+"""The files of the package: their form, and the names that callers take from them."""
+
+import ast
+import builtins
+import inspect
+import importlib
+import pathlib
+import unittest
+
+PACKAGE = pathlib.Path(__file__).resolve().parent.parent / "onepolicy"
+
+# The functions of each module that has landed, with the names of their arguments.
+INTERFACE = {
+    "octets": {"folded": "octets", "sum_number": "octets", "moved_sum": "number olds news"},
+    "addresses": {
+        "is_plain": "address", "show_address": "address", "parse_address": "text", "in_prefix": "prefix address",
+    },
+    "packets": {"fault": "packet", "size_of": "packet"},
+    "stubs": {"is_stub": "stub", "write_stub": "stub", "read_stub": "octets"},
+    "packet_writing": {"write_packet": "packet", "stub_of": "packet"},
+    "packet_reading": {"read_packet": "octets"},
+    "ways": {
+        "way_of": "packet", "way_of_stub": "stub", "turned": "way", "moved": "packet way", "moved_stub": "stub way",
+    },
+    "circle": {"later": "a b", "later_one": "a b", "lies": "number first last"},
+    "options": {"shift_of": "options"},
+    "talks": {"begun": "segment", "tracked": "talk x segment", "segment_end": "segment"},
+    "ground": {
+        "fault_ground": "ground", "is_inside": "ground address", "is_own": "ground address",
+        "wrong_side": "ground side packet", "side_of": "ground packet",
+    },
+    "bindings": {
+        "fault_pool": "ground pool", "free_ports": "book moment pool kind address",
+        "end_for": "book moment pool kind address port",
+    },
+    "moving": {"moved_failure": "ground packet way out"},
+}
+
+BUILTINS = (
+    "len range enumerate zip min max sum abs sorted reversed int str bool list tuple dict set isinstance ord repr any all "
+    "divmod Exception ValueError TypeError KeyError IndexError LookupError ZeroDivisionError ArithmeticError "
+    "OverflowError RuntimeError NotImplementedError"
+).split()
+METHODS = (
+    "append clear copy count endswith extend find get index insert isalnum isalpha isdigit islower isspace isupper items "
+    "join keys ljust lower lstrip partition pop remove replace reverse rfind rjust rpartition rsplit rstrip setdefault "
+    "split splitlines startswith strip update upper values zfill bit_length add discard"
+).split()
+STATEMENTS = (
+    ast.Assign, ast.AugAssign, ast.If, ast.While, ast.For, ast.Return, ast.Break, ast.Continue, ast.Pass, ast.Raise,
+    ast.Expr, ast.FunctionDef, ast.ClassDef, ast.ImportFrom, ast.Try, ast.Delete, ast.Assert,
+)
+BARRED = "mro elements open input law version_info with_traceback add_note eval exec compile globals locals vars".split()
+BARRED_WORDS = "typing enum Enum Flag Generic Protocol ABC namedtuple NamedTuple TypedDict dataclass overload".split()
+BARRED_STARTS = ("_wall", "_pe_", "_dcw_", "_enum_", "_cm_", "_twin_re_", "_lay_", "_law_", "_stub_", "_sre", "__")
+BARRED_NAMES = ("_cold", "_tuplegetter", "_outside", "_record", "_written_out", "_member_names")
+
+
+def files():
+    return sorted(path for path in PACKAGE.iterdir() if path.name != "__pycache__")
+
+
+def trees():
+    return [(path, ast.parse(path.read_text())) for path in files()]
+
+
+def bound_names(tree):
+    """Return the names that a tree binds: functions, classes, parameters and variables."""
+    names = []
+    for node in ast.walk(tree):
+        if isinstance(node, (ast.FunctionDef, ast.ClassDef)):
+            names.append(node.name)
+        elif isinstance(node, ast.arg):
+            names.append(node.arg)
+        elif isinstance(node, ast.Name) and isinstance(node.ctx, ast.Store):
+            names.append(node.id)
+    return names
+
+
+class Files(unittest.TestCase):
+    def test_only_plain_files(self):
+        self.assertLessEqual(len(files()), 100)
+        for path in files():
+            with self.subTest(path.name):
+                self.assertEqual(path.suffix, ".py")
+                self.assertTrue(path.stem.replace("_", "a").isalnum() and path.stem == path.stem.lower())
+                self.assertNotIn(path.stem, dir(builtins))
+
+    def test_signs_and_sizes(self):
+        for path in files():
+            with self.subTest(path.name):
+                text = path.read_bytes()
+                self.assertEqual([octet for octet in text if octet != 10 and not 32 <= octet <= 126], [])
+                lines = text.split(b"\n")
+                self.assertLessEqual(len(lines), 400)
+                self.assertLessEqual(max(len(line) for line in lines), 120)
+
+    def test_functions_are_short(self):
+        for path, tree in trees():
+            for node in ast.walk(tree):
+                if isinstance(node, ast.FunctionDef):
+                    with self.subTest((path.name, node.name)):
+                        self.assertLessEqual(node.end_lineno - node.lineno + 1, 40)
+
+
+class Imports(unittest.TestCase):
+    def test_names_come_from_the_files_that_define_them(self):
+        defined = {path.stem: {node.name for node in tree.body if hasattr(node, "name")} | {
+            target.id for node in tree.body if isinstance(node, ast.Assign) for target in node.targets
+        } for path, tree in trees()}
+        for path, tree in trees():
+            for node in ast.walk(tree):
+                with self.subTest((path.name, getattr(node, "lineno", 0))):
+                    self.assertNotIsInstance(node, ast.Import)
+                    if isinstance(node, ast.ImportFrom):
+                        self.assertIn(node, tree.body)
+                        package, module = node.module.split(".")
+                        self.assertEqual((package, node.level), ("onepolicy", 0))
+                        for name in node.names:
+                            self.assertIsNone(name.asname)
+                            self.assertIn(name.name, defined[module])
+
+    def test_no_file_imports_itself_by_others(self):
+        reach = {path.stem: {node.module.split(".")[1] for node in tree.body if isinstance(node, ast.ImportFrom)}
+                 for path, tree in trees()}
+        for _ in reach:
+            reach = {name: mods.union(*[reach[mod] for mod in mods]) for name, mods in reach.items()}
+        for name, mods in reach.items():
+            self.assertNotIn(name, mods)
+
+    def test_every_import_is_used(self):
+        for path, tree in trees():
+            used = {node.id for node in ast.walk(tree) if isinstance(node, ast.Name)}
+            for node in tree.body:
+                if isinstance(node, ast.ImportFrom):
+                    for name in node.names:
+                        self.assertIn(name.name, used, path.name)
+
+
+class Names(unittest.TestCase):
+    def test_module_level(self):
+        for path, tree in trees():
+            names = []
+            for at, node in enumerate(tree.body):
+                with self.subTest((path.name, node.lineno)):
+                    if isinstance(node, ast.Expr):
+                        self.assertTrue(at == 0 and isinstance(node.value, ast.Constant))
+                        continue
+                    self.assertIsInstance(node, (ast.ImportFrom, ast.FunctionDef, ast.ClassDef, ast.Assign))
+                    if isinstance(node, ast.ImportFrom):
+                        names += [name.name for name in node.names]
+                    elif isinstance(node, ast.Assign):
+                        self.assertEqual(len(node.targets), 1)
+                        names.append(node.targets[0].id)
+                    else:
+                        names.append(node.name)
+            self.assertEqual(len(names), len(set(names)), path.name)
+
+    def test_bound_names(self):
+        for path, tree in trees():
+            taken = [name.name for node in tree.body if isinstance(node, ast.ImportFrom) for name in node.names]
+            taken += [node.name for node in tree.body if isinstance(node, ast.ClassDef)]
+            for name in bound_names(tree):
+                with self.subTest((path.name, name)):
+                    if name in ("__init__", "_"):
+                        continue
+                    self.assertFalse(name.startswith(BARRED_STARTS))
+                    self.assertNotIn(name, BARRED_NAMES)
+                    self.assertNotIn(name, BARRED)
+                    self.assertFalse(hasattr(builtins, name))
+                    self.assertLessEqual(taken.count(name), 1)
+
+    def test_variables_have_no_names_of_imports_and_classes(self):
+        for path, tree in trees():
+            taken = [name.name for node in tree.body if isinstance(node, ast.ImportFrom) for name in node.names]
+            taken += [node.name for node in tree.body if isinstance(node, ast.ClassDef)]
+            for function in ast.walk(tree):
+                if isinstance(function, ast.FunctionDef):
+                    inner = [node.id for node in ast.walk(function)
+                             if isinstance(node, ast.Name) and isinstance(node.ctx, ast.Store)]
+                    inner += [node.arg for node in ast.walk(function) if isinstance(node, ast.arg)]
+                    self.assertEqual([name for name in inner if name in taken], [], (path.name, function.name))
+
+    def test_read_names_are_known(self):
+        for path, tree in trees():
+            known = set(bound_names(tree)) | set(BUILTINS)
+            known |= {name.name for node in tree.body if isinstance(node, ast.ImportFrom) for name in node.names}
+            for node in ast.walk(tree):
+                if isinstance(node, ast.Name) and isinstance(node.ctx, ast.Load):
+                    self.assertIn(node.id, known - {"_"}, (path.name, node.lineno))
+
+
+class Forms(unittest.TestCase):
+    def test_statements_and_expressions(self):
+        for path, tree in trees():
+            for node in ast.walk(tree):
+                with self.subTest((path.name, getattr(node, "lineno", 0))):
+                    if isinstance(node, ast.stmt):
+                        self.assertIsInstance(node, STATEMENTS)
+                    self.assertNotIsInstance(node, (ast.Div, ast.MatMult, ast.Set, ast.Yield, ast.Await))
+                    if isinstance(node, ast.Constant):
+                        self.assertNotIsInstance(node.value, (float, complex, bytes))
+                    if isinstance(node, (ast.FunctionDef, ast.ClassDef)):
+                        self.assertEqual(node.decorator_list, [])
+                    if isinstance(node, ast.BinOp) and isinstance(node.op, ast.Pow):
+                        self.assertIn(node.right.value, range(65))
+                    if isinstance(node, ast.Compare) and any(isinstance(op, (ast.Is, ast.IsNot)) for op in node.ops):
+                        self.assertIsNone(node.comparators[0].value)
+
+    def test_methods(self):
+        for path, tree in trees():
+            for node in ast.walk(tree):
+                if isinstance(node, ast.Call) and isinstance(node.func, ast.Attribute):
+                    self.assertIn(node.func.attr, METHODS, (path.name, node.lineno))
+
+    def test_strings(self):
+        for path, tree in trees():
+            told = [node.body[0].value for node in ast.walk(tree)
+                    if isinstance(node, (ast.Module, ast.FunctionDef, ast.ClassDef)) and ast.get_docstring(node)]
+            for node in ast.walk(tree):
+                if isinstance(node, ast.Constant) and isinstance(node.value, str) and node not in told:
+                    self.assertNotIn("%", node.value, path.name)
+                    for word in BARRED_WORDS:
+                        self.assertNotIn(word, node.value.split(), path.name)
+
+    def test_every_function_but_small_helpers_has_a_docstring(self):
+        for path, tree in trees():
+            self.assertTrue(ast.get_docstring(tree), path.name)
+            for node in tree.body:
+                if isinstance(node, (ast.FunctionDef, ast.ClassDef)) and not node.name.startswith("_"):
+                    self.assertTrue(ast.get_docstring(node), (path.name, node.name))
+
+
+class Interface(unittest.TestCase):
+    def test_functions_and_their_arguments(self):
+        for name, functions in INTERFACE.items():
+            module = importlib.import_module("onepolicy." + name)
+            for function, arguments in functions.items():
+                with self.subTest((name, function)):
+                    found = getattr(module, function)
+                    self.assertEqual(found.__module__, "onepolicy." + name)
+                    self.assertEqual(list(inspect.signature(found).parameters), arguments.split())
+
+
+if __name__ == "__main__":
+    unittest.main()
