@@ -1,6 +1,7 @@
 """Pools, and the ends that bindings of a book give to sources (points 160 to 163)."""
 
-from onepolicy.fields import within
+from onepolicy.boxes import is_number
+from onepolicy.fields import whole_within, within
 from onepolicy.ground import is_ascending, is_own
 
 # An outside end that was given back rests for so many moments.
@@ -12,20 +13,16 @@ def fault_pool(ground, pool):
     _, addresses, low, high = pool
     if not _are_addresses(ground, addresses):
         return "addresses"
-    if not _is_integer(low) or not _is_integer(high) or not 32768 <= low <= high <= 65535:
+    if not whole_within(high, 32768, 65535) or not whole_within(low, 32768, high):
         return "ports"
     return None
-
-
-def _is_integer(value):
-    return isinstance(value, int) and not isinstance(value, bool)
 
 
 def _are_addresses(ground, addresses):
     if not isinstance(addresses, tuple) or not within(len(addresses), 1, 64):
         return False
     # Only integers can be asked whether they ascend.
-    if not all([_is_integer(address) for address in addresses]) or not is_ascending(addresses):
+    if not all([is_number(address) for address in addresses]) or not is_ascending(addresses):
         return False
     return all([is_own(ground, address) for address in addresses])
 
@@ -101,15 +98,19 @@ def _by_many(book, pool):
     return [outside for many, outside in sorted(rows)]
 
 
-def given_back(book, moment, key):
-    """Return the book in which the binding with a key has one holder less, at a moment (point 163)."""
-    bindings = {other: book["bindings"][other] for other in book["bindings"] if other != key}
-    resting = {end: book["resting"][end] for end in book["resting"]}
-    address, port, holders = book["bindings"][key]
+def take_end(book, key, end):
+    """Give the binding with a key one holder more, a new one this outside end; this changes the book."""
+    bindings = book["bindings"]
+    holders = bindings[key][2] if key in bindings else 0
+    bindings[key] = (end[0], end[1], holders + 1)
+
+
+def give_back(book, moment, key):
+    """Give the binding with a key one holder less at a moment (point 163); this changes the book."""
+    bindings = book["bindings"]
+    address, port, holders = bindings[key]
     if holders > 1:
         bindings[key] = (address, port, holders - 1)
     else:
-        resting[(key[1], address, port)] = moment + REST
-    flows = {number: book["flows"][number] for number in book["flows"]}
-    ways = {way: book["ways"][way] for way in book["ways"]}
-    return {**book, "flows": flows, "ways": ways, "bindings": bindings, "resting": resting}
+        del bindings[key]
+        book["resting"][(key[1], address, port)] = moment + REST

@@ -1,9 +1,16 @@
-"""What the fields of packets, stubs and grounds are asked."""
+"""What the fields of packets, grounds and rows are asked."""
+
+from onepolicy.boxes import is_number
 
 
 def within(value, low, high):
     """Return whether an integer is from a low one to a high one."""
     return low <= value <= high
+
+
+def whole_within(value, low, high):
+    """Return whether a value of any kind is an integer, no truth, from a low one to a high one."""
+    return is_number(value) and low <= value <= high
 
 
 def is_port(value):

@@ -46,6 +46,11 @@ def begun(segment):
     return ("asked", (start, end, end, wide, start, shift_of(segment[OPTIONS]), None), None)
 
 
+def is_bare_syn(segment):
+    """Return whether a segment is a bare syn."""
+    return _form(segment) == SYN and len(segment[DATA]) == 0
+
+
 def tracked(talk, x, segment):
     """Return the pair of the word and the talk behind a segment of side x."""
     state = talk[0]

@@ -4,7 +4,7 @@ import copy
 import random
 import unittest
 
-from onepolicy.bindings import end_for, fault_pool, free_ports, given_back
+from onepolicy.bindings import end_for, fault_pool, free_ports, give_back, take_end
 from samples import OWN, PC, SERVER, calm
 
 OWNS = tuple(OWN + number for number in range(70))
@@ -67,6 +67,13 @@ class Faults(unittest.TestCase):
     def test_the_first_fault_is_told(self):
         self.check(pool((), 5, 4), "addresses")
         self.check(pool((OWN,), 5, 4), "ports")
+
+
+def given_back(value, moment, key):
+    """Return the book in which the binding with a key was given back."""
+    value = copy.deepcopy(value)
+    give_back(value, moment, key)
+    return value
 
 
 class FreePorts(unittest.TestCase):
@@ -275,7 +282,9 @@ class Rows(unittest.TestCase):
                     self.assertEqual(end[1] % workers, value["part"])
                     self.assertGreaterEqual(moment - given.get((kind,) + end, -60), 60)
                 holders = bindings[key][2] if key in bindings else 0
-                value["bindings"] = {**bindings, key: end + (holders + 1,)}
+                due = {**bindings, key: end + (holders + 1,)}
+                take_end(value, key, end)
+                self.assertEqual(value["bindings"], due)
                 ends = [(key[1],) + end[:2] for key, end in value["bindings"].items()]
                 self.assertEqual(len(ends), len(set(ends)))
 
@@ -299,16 +308,13 @@ class GivingBack(unittest.TestCase):
         for moment, due in ((100, [40002, 40004]), (159, [40002, 40004]), (160, [40000, 40002, 40004])):
             self.assertEqual(free_ports(found, moment, pool(high=40004), "tcp", OWN), due)
 
-    def test_nothing_is_shared(self):
+    def test_nothing_but_the_book_changes(self):
         key = (pool(), "udp", PC, 1)
-        for holders in (1, 2):
-            value = book(0, 2, {key: (OWN, 40000, holders)})
-            before = copy.deepcopy(value)
-            found = given_back(value, 100, key)
-            for name in ("flows", "ways", "bindings", "resting"):
-                found[name]["x"] = "y"
-            found["part"] = 7
-            self.assertEqual(value, before)
+        value = book(0, 2, {key: (OWN, 40000, 1)})
+        self.assertIsNone(give_back(value, 100, key))
+        self.assertEqual(value, book(0, 2, {}, {("udp", OWN, 40000): 160}))
+        self.assertIsNone(take_end(value, key, (OWN, 40002)))
+        self.assertEqual(value, book(0, 2, {key: (OWN, 40002, 1)}, {("udp", OWN, 40000): 160}))
 
 
 if __name__ == "__main__":

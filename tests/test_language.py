@@ -34,6 +34,51 @@ INTERFACE = {
         "end_for": "book moment pool kind address port",
     },
     "moving": {"moved_failure": "ground packet way out"},
+    "flows": {
+        "new_book": "ground part moment", "swept": "book moment", "carry": "book moment packet", "may_open": "packet",
+        "opened": "book moment packet plan version room", "cut_below": "book moment version", "held": "book version",
+        "fault_times": "times",
+    },
+    "plans": {"planned": "ground fate times packet chosen"},
+    "answers": {
+        "own_for": "ground packet", "expired": "ground packet", "refusing": "ground packet", "reset": "packet",
+    },
+    "steering": {"mixed": "address", "steered": "ground octets"},
+    "boxes": {
+        "is_number": "value", "whole_box": "", "has_point": "box point", "least_point": "box", "parted": "box field value",
+    },
+    "tables": {
+        "point_of": "side packet", "decider": "table point", "verdict": "table point", "fault_of_table": "table",
+    },
+    "covers": {
+        "meets": "match box", "contains": "match box", "decides": "table box index", "is_alike": "table box index",
+        "accepts": "claim cover",
+    },
+    "claims": {
+        "is_true_at": "claim point", "settle": "claim", "met": "table", "differs": "table other box",
+        "changed": "table other box",
+    },
+    "limits": {
+        "is_name": "name", "fault_of_limits": "rows", "key_of": "row asker", "swept": "rows states moment",
+        "kept_keys": "rows states moment", "ask": "rows states holds moment asker cost", "turned": "states rows others",
+    },
+    "balance": {
+        "fault_of_services": "services", "eligible": "service", "mark": "client name copy", "rank": "client server",
+        "empty_state": "", "swept_clients": "services state moment", "look": "service state client moment",
+        "take": "services index state client moment", "ended": "state service server client moment",
+    },
+    "moves": {"moves": "service other clients", "right_moves": "service other clients rows"},
+    "health": {
+        "observed": "states rise fall results", "ordered": "states name health", "with_healths": "services states",
+    },
+    "heads": {
+        "is_method": "value", "has_body": "method", "is_repeatable": "method", "answers_have_body": "method",
+        "is_octets": "value", "is_number": "value", "is_name": "value", "is_value": "value wide",
+        "is_headers": "value wide", "is_target": "value wide", "is_host": "value", "is_request": "value wide",
+        "is_answer": "value method wide", "sign_of": "octet", "is_signs": "value", "is_size": "word",
+        "is_number_of_octets": "word", "values_of": "headers name",
+    },
+    "writing": {"write_request": "request", "write_answer": "answer method"},
 }
 
 BUILTINS = (
@@ -208,10 +253,35 @@ class Forms(unittest.TestCase):
                         self.assertIsNone(node.comparators[0].value)
 
     def test_methods(self):
+        own = [node.name for _, tree in trees() for kind in ast.walk(tree) if isinstance(kind, ast.ClassDef)
+               for node in kind.body if isinstance(node, ast.FunctionDef)]
         for path, tree in trees():
             for node in ast.walk(tree):
                 if isinstance(node, ast.Call) and isinstance(node.func, ast.Attribute):
-                    self.assertIn(node.func.attr, METHODS, (path.name, node.lineno))
+                    self.assertIn(node.func.attr, METHODS + own, (path.name, node.lineno))
+
+    def test_what_is_iterated_at_once_is_not_kept(self):
+        for path, tree in trees():
+            for node in ast.walk(tree):
+                if isinstance(node, (ast.Assign, ast.Return)) and isinstance(node.value, ast.Call):
+                    name = getattr(node.value.func, "id", getattr(node.value.func, "attr", ""))
+                    self.assertNotIn(name, ("zip", "enumerate", "reversed", "items", "keys", "values"), (path.name, node.lineno))
+
+    def test_keywords_are_those_of_sorted(self):
+        for path, tree in trees():
+            for node in ast.walk(tree):
+                if isinstance(node, ast.Call):
+                    self.assertLessEqual({word.arg for word in node.keywords}, {"key", "reverse"}, (path.name, node.lineno))
+
+    def test_module_level_values_are_only_read(self):
+        for path, tree in trees():
+            kept = [node.targets[0].id for node in tree.body
+                    if isinstance(node, ast.Assign) and isinstance(node.value, (ast.Dict, ast.List))]
+            for node in ast.walk(tree):
+                if isinstance(node, ast.Call):
+                    self.assertFalse([part for part in node.args if getattr(part, "id", None) in kept], path.name)
+                if isinstance(node, (ast.Return, ast.Assign)):
+                    self.assertNotIn(getattr(node.value, "id", None), kept, path.name)
 
     def test_strings(self):
         for path, tree in trees():
