@@ -79,6 +79,58 @@ INTERFACE = {
         "is_number_of_octets": "word", "values_of": "headers name",
     },
     "writing": {"write_request": "request", "write_answer": "answer method"},
+    "paths": {"normal": "target", "print_target": "form", "is_segment": "value", "is_plain_segment": "value"},
+    "routes": {
+        "fault_routes": "policy", "fault_errors": "policy", "fits_route": "route method host segments",
+        "route_of": "routes method host segments", "error_row": "errors word",
+    },
+    "headers": {
+        "fault_headers": "policy", "fault_trusted": "policy", "is_trusted": "trusted address",
+        "inside_headers": "headers trusted client name given", "outside_headers": "headers given",
+    },
+    "sending": {
+        "inside_octets": "policy route client name request", "outside_octets": "policy method answer",
+        "own_octets": "policy method word",
+    },
+    "policytext": {"is_plain_policy": "value", "read_policy": "text", "print_policy": "policy"},
+    "hidden": {"twins": "ground w versions others rows"},
+    "versions": {"values_of_policy": "policy", "policy_of": "values", "fault_of_policy": "ground policy"},
+    "door": {
+        "is_whole": "value low", "are_octets": "value", "is_name": "value", "is_reaction": "value", "is_arrival": "value",
+    },
+    "realize": {"realize": "edge plan", "settle": "edge"},
+    "judge": {"judge": "ground versions log"},
+}
+
+# The classes of each module that has landed, with their methods and the names of their arguments.
+CLASSES = {
+    ("reading", "Reader"): {
+        "__init__": "method wide", "feed": "octets", "place": "", "is_between": "", "copy": "",
+    },
+    ("sending", "Lives"): {
+        "__init__": "", "request": "versions version moment name client request desk",
+        "fault": "versions version moment name client word desk", "gone": "versions version moment connection desk",
+        "inside": "versions version moment name k reaction desk", "over": "versions version moment desk",
+        "cut": "cut moment desk", "twin": "",
+    },
+    ("plain", "Plain"): {
+        "__init__": "ground w moment", "take": "versions number moment version event", "living": "", "twin": "",
+    },
+    ("door", "Door"): {"__init__": "ground", "events": "moment arrival", "moment": "", "next": "", "twin": ""},
+    ("links", "Bag"): {"__init__": "", "put": "message", "rows": "", "at": "index", "take": "index", "twin": ""},
+    ("links", "Sender"): {"__init__": "life", "send": "body", "again": "", "had": "k", "rows": "", "twin": ""},
+    ("links", "Receiver"): {"__init__": "life", "receive": "message", "rows": "", "twin": ""},
+    ("workers", "Worker"): {"__init__": "ground w life", "begin": "moment versions", "take": "body", "twin": ""},
+    ("edge", "Edge"): {
+        "__init__": "ground policy", "step": "step", "links": "", "kept": "", "lives": "", "stamped": "",
+        "version": "number", "log": "", "twin": "",
+    },
+}
+
+# The attributes that the interface lists.
+ATTRIBUTES = {
+    ("links", "Sender"): "life", ("links", "Receiver"): "life",
+    ("workers", "Worker"): "life plain versions sender receiver",
 }
 
 BUILTINS = (
@@ -109,11 +161,18 @@ def trees():
     return [(path, ast.parse(path.read_text())) for path in files()]
 
 
+def methods_of(tree):
+    """Return the nodes of the methods of a tree."""
+    return [node for kind in tree.body if isinstance(kind, ast.ClassDef) for node in kind.body]
+
+
 def bound_names(tree):
-    """Return the names that a tree binds: functions, classes, parameters and variables."""
-    names = []
+    """Return the names that a tree binds: functions, classes, parameters and variables, but no methods."""
+    names, methods = [], methods_of(tree)
     for node in ast.walk(tree):
-        if isinstance(node, (ast.FunctionDef, ast.ClassDef)):
+        if isinstance(node, (ast.FunctionDef, ast.ClassDef)) and node not in methods:
+            names.append(node.name)
+        elif isinstance(node, ast.ExceptHandler):
             names.append(node.name)
         elif isinstance(node, ast.arg):
             names.append(node.arg)
@@ -207,7 +266,7 @@ class Names(unittest.TestCase):
             taken += [node.name for node in tree.body if isinstance(node, ast.ClassDef)]
             for name in bound_names(tree):
                 with self.subTest((path.name, name)):
-                    if name in ("__init__", "_"):
+                    if name in (None, "_"):
                         continue
                     self.assertFalse(name.startswith(BARRED_STARTS))
                     self.assertNotIn(name, BARRED_NAMES)
@@ -251,6 +310,72 @@ class Forms(unittest.TestCase):
                         self.assertIn(node.right.value, range(65))
                     if isinstance(node, ast.Compare) and any(isinstance(op, (ast.Is, ast.IsNot)) for op in node.ops):
                         self.assertIsNone(node.comparators[0].value)
+
+    def test_no_function_is_nested_and_no_class(self):
+        for path, tree in trees():
+            methods = methods_of(tree)
+            for node in ast.walk(tree):
+                if isinstance(node, (ast.FunctionDef, ast.ClassDef)):
+                    self.assertTrue(node in tree.body or node in methods, (path.name, node.lineno))
+
+    def test_errors_are_made_where_they_are_raised(self):
+        errors = ("Misstep", "Wrong", "Unread", "Beyond", "Unfit", "BadText")
+        for path, tree in trees():
+            for node in ast.walk(tree):
+                if isinstance(node, ast.Raise):
+                    self.assertIn(node.exc.func.id, errors, (path.name, node.lineno))
+                    self.assertIsNone(node.cause)
+                if isinstance(node, ast.ExceptHandler):
+                    self.assertIn(node.type.id, errors, (path.name, node.lineno))
+
+    def test_sets_and_generators_are_not_used(self):
+        for path, tree in trees():
+            for node in ast.walk(tree):
+                self.assertNotIsInstance(node, (ast.GeneratorExp, ast.SetComp, ast.YieldFrom), path.name)
+                if isinstance(node, ast.Call) and isinstance(node.func, ast.Name):
+                    self.assertNotIn(node.func.id, ("set", "frozenset", "map", "iter", "next", "eval"), path.name)
+
+    def test_attributes_of_classes(self):
+        """No name is a method and an attribute in one class; attributes are assigned in __init__, by local names."""
+        builtin = {name for kind in (str, int, list, dict, set, bytes, tuple) for name in dir(kind)}
+        for path, tree in trees():
+            for kind in [node for node in tree.body if isinstance(node, ast.ClassDef)]:
+                methods = [node.name for node in kind.body if isinstance(node, ast.FunctionDef)]
+                self.assertEqual(len(methods), len(set(methods)))
+                attributes = [node.attr for node in ast.walk(kind)
+                              if isinstance(node, ast.Attribute) and isinstance(node.ctx, ast.Store)]
+                self.assertFalse(set(methods) & set(attributes), (path.name, kind.name))
+                self.assertFalse(set(attributes) & builtin, (path.name, kind.name))
+                self.assertFalse(set(methods) & builtin - {"__init__", "copy"}, (path.name, kind.name))
+            for node in ast.walk(tree):
+                if isinstance(node, ast.Attribute) and isinstance(node.ctx, ast.Store):
+                    self.assertIsInstance(node.value, ast.Name, (path.name, node.lineno))
+
+    def test_read_attributes_are_assigned(self):
+        made = {"append"}
+        for _, tree in trees():
+            made |= {node.attr for node in ast.walk(tree) if isinstance(node, ast.Attribute) and isinstance(node.ctx, ast.Store)}
+        for path, tree in trees():
+            called = [node.func for node in ast.walk(tree) if isinstance(node, ast.Call)]
+            for node in ast.walk(tree):
+                if isinstance(node, ast.Attribute) and isinstance(node.ctx, ast.Load) and node not in called:
+                    self.assertIn(node.attr, made, (path.name, node.lineno))
+
+    def test_what_a_loop_goes_over_is_not_changed_in_it(self):
+        changing = ("append", "clear", "extend", "insert", "pop", "remove", "reverse", "setdefault", "update")
+        for path, tree in trees():
+            for loop in ast.walk(tree):
+                if not isinstance(loop, ast.For):
+                    continue
+                over = ast.unparse(loop.iter)
+                for node in ast.walk(loop):
+                    changed = []
+                    if isinstance(node, ast.Call) and isinstance(node.func, ast.Attribute) and node.func.attr in changing:
+                        changed = [node.func.value]
+                    elif isinstance(node, (ast.Assign, ast.Delete)):
+                        changed = [part.value for part in node.targets if isinstance(part, ast.Subscript)]
+                    for part in changed:
+                        self.assertNotIn(ast.unparse(part), (over, over.partition("(")[2].rstrip(")")), (path.name, node.lineno))
 
     def test_methods(self):
         own = [node.name for _, tree in trees() for kind in ast.walk(tree) if isinstance(kind, ast.ClassDef)
@@ -310,6 +435,30 @@ class Interface(unittest.TestCase):
                     found = getattr(module, function)
                     self.assertEqual(found.__module__, "onepolicy." + name)
                     self.assertEqual(list(inspect.signature(found).parameters), arguments.split())
+
+    def test_classes_and_their_methods(self):
+        for (name, kind), methods in CLASSES.items():
+            found = getattr(importlib.import_module("onepolicy." + name), kind)
+            self.assertEqual((found.__module__, found.__bases__), ("onepolicy." + name, (object,)))
+            for method, arguments in methods.items():
+                with self.subTest((name, kind, method)):
+                    self.assertIn(method, vars(found))
+                    self.assertEqual(list(inspect.signature(vars(found)[method]).parameters), ["self"] + arguments.split())
+
+    def test_defaults(self):
+        for (name, kind), methods in CLASSES.items():
+            found = inspect.signature(getattr(importlib.import_module("onepolicy." + name), kind))
+            defaults = {part.name: part.default for part in found.parameters.values() if part.default is not part.empty}
+            self.assertEqual(defaults, {"method": None, "wide": False} if kind == "Reader" else {})
+
+    def test_attributes(self):
+        given = {"life": 3, "ground": ("ground", ((167772160, 8),), (3405803777,), 2), "w": 1}
+        for (name, kind), attributes in ATTRIBUTES.items():
+            found = getattr(importlib.import_module("onepolicy." + name), kind)
+            made = found(*[given[part] for part in inspect.signature(found).parameters])
+            for attribute in attributes.split():
+                self.assertIn(attribute, vars(made))
+                self.assertFalse(callable(getattr(made, attribute)))
 
 
 if __name__ == "__main__":
