@@ -53,7 +53,8 @@ def _take_of_size(body, octet):
     if octet == CR and body.word != "":
         body.stage = "size LF"
         return None
-    if sign == "" or not is_size(body.word + sign):
+    # A CR that ends no size has no sign, and so makes none.
+    if not is_size(body.word + sign):
         return "size"
     if len(body.octets) + size_of_word(body.word + sign) > MOST_BODY:
         return "long"

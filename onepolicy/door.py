@@ -78,6 +78,10 @@ def is_arrival(value):
     return value[0] == "inside" and len(value) == 4 and is_deed(value)
 
 
+def _copied(reader):
+    return None if reader is None else reader.copy()
+
+
 class Door:
     """The door of an edge, without connections, at the moment 0."""
 
@@ -99,9 +103,7 @@ class Door:
         other.greatest = self.greatest
         other.clients = {**self.clients}
         other.names = {**self.names}
-        for connection in self.readers:
-            reader = self.readers[connection]
-            other.readers[connection] = None if reader is None else reader.copy()
+        other.readers = {connection: _copied(self.readers[connection]) for connection in self.readers}
         return other
 
     def moment(self):

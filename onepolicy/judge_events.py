@@ -72,7 +72,6 @@ class Events:
         if event[0] == "tick":
             self.tick = (w + 1, moment) if w + 1 < self.ground[3] else None
         elif event[0] == "gone":
-            self.clients[event[1]] = event[2]
             self.ends[event[1]] = "gone"
         elif event[0] in ("request", "fault"):
             connection, index = event[1]

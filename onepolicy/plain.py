@@ -68,14 +68,14 @@ class Plain:
     def take(self, versions, number, moment, version, event):
         """Take an event; return the pair of the lists of outputs and of fates."""
         policy, cut = versions[version]
-        outputs, fates = [], []
         self._replace(swept(self.book, moment), moment)
-        steps = [self._cut(cut, moment), self._over(versions, version, moment, policy)]
-        steps.append(self._take_event(versions, version, moment, event))
-        for step in steps:
-            outputs.extend([_frozen(output) for output in step[0]])
-            fates.extend(step[1])
-        return (outputs, fates)
+        ended = self._cut(cut, moment)
+        self._turn_limits(policy["limits"])
+        late = self.requests.over(versions, version, moment, self.desk)
+        self.desk["balance"] = swept_clients(policy["services"], self.desk["balance"], moment)
+        done = self._take_event(versions, version, moment, event)
+        outputs = ended[0] + late[0] + done[0]
+        return ([_frozen(output) for output in outputs], ended[1] + late[1] + done[1])
 
     def _replace(self, book, moment):
         """Take a book of a moment in the place of the one before; what flows had that ended is given back."""
@@ -99,13 +99,11 @@ class Plain:
         self._replace(book, moment)
         return self.requests.cut(cut, moment, self.desk)
 
-    def _over(self, versions, version, moment, policy):
-        """Turn the counts of limits to a policy, and end what is over of calls and of kept clients."""
-        self.desk["states"] = turned(self.desk["states"], self.limits, policy["limits"])
-        self.limits = policy["limits"]
-        told = self.requests.over(versions, version, moment, self.desk)
-        self.desk["balance"] = swept_clients(policy["services"], self.desk["balance"], moment)
-        return told
+    def _turn_limits(self, limits):
+        """Go from the limits of the event before to those of this one."""
+        if limits != self.limits:
+            self.desk["states"] = turned(self.desk["states"], self.limits, limits)
+            self.limits = limits
 
     def _take_event(self, versions, version, moment, event):
         kind = event[0]

@@ -48,8 +48,8 @@ def is_plain_policy(value):
     rules = value["rules"]
     if not isinstance(rules, tuple) or len(rules) != 2 or not isinstance(rules[0], tuple):
         return False
-    for word, key, is_one in LINES:
-        if not is_one and word != "rule" and not isinstance(value[key], tuple):
+    for _, key, is_one in LINES:
+        if not is_one and not isinstance(value[key], tuple):
             return False
     return all([_is_plain(row, MOST_DEPTH) and _is_value_of(word, row) for word, row in _rows_of(value)])
 
@@ -110,10 +110,11 @@ def _read_rest(tokens, word):
 def _policy_of_rows(rows):
     policy = {}
     for word, key, is_one in LINES:
-        values = [value for other, value in rows if other == word]
-        policy[key] = values[0] if is_one else tuple(values)
-    # Both lines of the rules have their key, of which the later one took the place.
-    policy["rules"] = (tuple([value for word, value in rows if word == "rule"]), policy["rules"])
+        values = tuple([value for other, value in rows if other == word])
+        if word == "last":
+            policy[key] = (policy[key], values[0])
+        else:
+            policy[key] = values[0] if is_one else values
     return {key: policy[key] for key in KEYS}
 
 

@@ -56,10 +56,8 @@ class Reader:
             self.body = Body(None)
 
     def _is_whole(self):
-        """Return whether a text is whole."""
-        if self.head is None or not self.head.is_whole():
-            return False
-        return self.body is None or self.body.is_whole()
+        """Return whether the text that is read is whole."""
+        return self.head.is_whole() and (self.body is None or self.body.is_whole())
 
     def _value(self):
         body = None if self.body is None else tuple(self.body.octets)

@@ -114,8 +114,8 @@ class Lives:
         """Let turns come at a connection until a call is under way, or nothing waits."""
         policy = versions[version][0]
         while number not in self.under_way and len(self.waiting.get(number, ())) > 0:
-            (name, kind, value), *rest = self.waiting[number]
-            self.waiting[number] = tuple(rest)
+            name, kind, value = self.waiting[number][0]
+            self.waiting[number] = self.waiting[number][1:]
             if kind == "fault":
                 told[0].append(("tell", number, own_octets(policy, "GET", "refused")))
                 told[0].append(("close", number))

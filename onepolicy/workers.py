@@ -5,6 +5,12 @@ from onepolicy.plain import Plain
 from onepolicy.versions import policy_of
 
 
+def _copied(version):
+    """Return a pair of a policy and a cut with a dict of its own."""
+    policy, cut = version
+    return ({**policy}, cut)
+
+
 class Worker:
     """A worker with its ends of the channels, in a life, which does not go on yet."""
 
@@ -23,9 +29,7 @@ class Worker:
         other.sender = self.sender.twin()
         other.receiver = self.receiver.twin()
         other.plain = None if self.plain is None else self.plain.twin()
-        for number in self.versions:
-            policy, cut = self.versions[number]
-            other.versions[number] = ({**policy}, cut)
+        other.versions = {number: _copied(self.versions[number]) for number in self.versions}
         return other
 
     def begin(self, moment, versions):

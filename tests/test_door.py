@@ -63,7 +63,7 @@ class Values(unittest.TestCase):
             ("piece", 1, CLIENT, [True]), ("piece", 1, CLIENT), ("piece", 1, CLIENT, [], 1), ("inside", (1, 0), 0, "refused"),
             ("inside", (1, 0), True, "refused"), ("inside", (0, 0), 1, "refused"), ("inside", [1, 0], 1, "refused"),
             ("inside", (1, 0), 1, "late"), ("inside", (1, 0), 1, ("answer", ([],))), ("inside", (1, 0), 1), ("inside", (1, 0), None, "broken"),
-            ("here", 1), (["tick"],), ((),), (None, 1, 2),
+            ("here", 1), (["tick"],), ((),), (None, 1, 2), ("outside", (1, 0), 1, "refused"), ("tock",),
         ):
             self.ask(is_arrival, False, value)
 
@@ -237,6 +237,18 @@ class Twins(Case):
         self.assertEqual(twin.events(0, ("piece", 5, CLIENT, text("GET / E/1")[9:]))[0][1], ("request", (5, 0), CLIENT, request()))
         twin.events(0, ("piece", 9, CLIENT, []))
         self.assertEqual(self.take(4, ("piece", 6, CLIENT, []))[0][1], ("gone", 6, CLIENT))
+
+    def test_they_begin_where_the_other_one_is(self):
+        self.take(4, ("piece", 5, CLIENT, text("GET / E/1")))
+        self.door.next()
+        twin = self.door.twin()
+        self.assertEqual((twin.moment(), twin.next()), (4, 2))
+        self.door = twin
+        self.refuse("moment", 3, ("tick",))
+        self.refuse("connection", 4, ("piece", 3, CLIENT, []))
+        self.refuse("connection", 4, ("piece", 5, OTHER, []))
+        self.refuse("connection", 4, ("inside", (5, 1), 1, "broken"))
+        self.take(4, ("inside", (5, 0), 1, "broken"))
 
     def test_what_is_handed_in_is_not_shared(self):
         row = text("PUT / E/1", body=(1, 2, 3))

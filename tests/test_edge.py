@@ -85,7 +85,7 @@ class Beginnings(Case):
 
 class Forms(Case):
     def test_form(self):
-        for step in ODD + (("arrive",), ("arrive", 0), TICK + (1,), list(TICK), ("Arrive", 0, ("tick",)), ("bring",), ("bring", policy(), 1),
+        for step in ODD + (("arrive",), ("arrive", 0), TICK + (1,), list(TICK), ("x",), ("Arrive", 0, ("tick",)), ("bring",), ("bring", policy(), 1),
                            ("deliver", "door", 0), ("lose", "door", 0), ("double", 0, "door", 0, 0), ("again", 0), ("again", 0, "door", 0),
                            ("anew",), ("anew", 0, 0), ("fall", 0), (["anew"], 0), (None, 0), ((), 0)):
             self.refuse("form", step)
@@ -282,6 +282,11 @@ class Exchange(Case):
             self.assertEqual(rows, [("gave up", number, mixed(CLIENT) % 2, "room")] if cut is None else [("stamp", number)])
         self.assertEqual(self.edge.stamped(), (8, None))
 
+    def test_cuts_behind_a_first_version_that_cuts(self):
+        self.edge = Edge(ground(2), policy(keep="cut"))
+        self.step("bring", policy())
+        self.assertEqual((self.edge.version(1)[1], self.edge.version(2)[1]), (1, 1))
+
     def test_events_keep_their_version_under_way(self):
         self.step(*TICK)
         self.step("bring", policy(routes=()))
@@ -436,6 +441,29 @@ class Sharing(Case):
         edge.version(2)[0].clear()
         self.assertEqual(self.seen(), seen)
         self.assertEqual(edge.version(2), (policy(), 0))
+
+    def test_twins_begin_where_the_other_one_is(self):
+        self.step("arrive", 7, ("tick",))
+        self.step("bring", policy(keep="cut"))
+        self.settle()
+        self.step("bring", policy(room=5))
+        self.deliver("door", 0)
+        self.deliver(0, "door")
+        self.step("arrive", 8, ("piece", 3, CLIENT, text("GET / E/1")[:4]))
+        self.step("anew", 1)
+        twin = self.edge.twin()
+        for step in [("deliver", 1, "door", 0), ("arrive", 9, ("tick",)), ("again", "door", 1), ("deliver", "door", 1, 0),
+                     ("deliver", 1, "door", 0), ("arrive", 9, ("piece", 3, CLIENT, text("GET / E/1")[4:]))] + settle(self.edge):
+            try:
+                self.edge.step(step)
+            except Misstep:
+                self.assertRaises(Misstep, twin.step, step)
+                continue
+            twin.step(step)
+            self.assertEqual((twin.links(), twin.kept(), twin.lives(), twin.stamped(), twin.log()), self.seen())
+            for number in (1, 2):
+                self.assertEqual(twin.version(number), self.edge.version(number))
+        self.assertIn(("fell", 1, 7), twin.log())
 
     def test_twins_go_on_alone(self):
         self.step("bring", policy(room=9))

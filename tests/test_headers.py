@@ -27,6 +27,8 @@ class Faults(unittest.TestCase):
     def one(self, row, due):
         self.check((row,), due and (due, 0))
         self.check((("hide", "answer", "zz"), row), due and (due, 1))
+        if due == "header":
+            self.check((row, SET, FROM), (due, 0))
 
     def test_right_ones(self):
         self.check((), None)
@@ -44,7 +46,7 @@ class Faults(unittest.TestCase):
     def test_rows_that_are_none(self):
         for value in ODD + (list(HIDE), HIDE[:2], HIDE + ("v",), SET[:3], SET + ("v",), FROM + ("v",), ("from",), ("hide",),
                             ("show", "request", "a"), ("Hide", "request", "a"), (["hide"], "request", "a"),
-                            ((), "request", "a"), (None, "request", "a"), ("from", "request", "a"), ("set", "b", "v")):
+                            ((), "request", "a"), (None, "request", "a"), ("from", "request", "a"), ("set", "b", "v"), ("show",), ("x", "request", "a")):
             self.one(value, "header")
         for row, at in ((HIDE, 1), (SET, 1)):
             for side in ("requests", "", None, "in", ("request",), ["answer"]):

@@ -63,7 +63,7 @@ class Forms(Case):
         self.right(TICKS + DIDS[::-1])
 
     def test_rows_that_are_none(self):
-        for row in ODD + (["came"], ("Came", 1, 5, 1, 0, ("tick",)), TICKS[0][:5], TICKS[0] + (1,), list(TICKS[0]), (["came"], 1, 5, 1, 0, ("tick",)),
+        for row in ODD + (["came"], ("x",), ("Came", 1, 5, 1, 0, ("tick",)), TICKS[0][:5], TICKS[0] + (1,), list(TICKS[0]), (["came"], 1, 5, 1, 0, ("tick",)),
                           ("did", 1, ()), ("did", 1, (), (), ()), ("did", 1, [], ()), ("did", 1, (), []), ("did", 1, None, ()), ("stamp",),
                           ("stamp", 2, 3), ("gave up", 2, 0), ("gave up", 2, 0, "rooms"), ("gave up", 2, 0, None), ("fell", 0),
                           ("fell", 0, 5, 1), ("lost",), ("lost", 1, 2), ("lost", [1])):

@@ -83,6 +83,7 @@ class Senders(unittest.TestCase):
         sender.rows().clear()
         twin = sender.twin()
         self.assertEqual((twin.life, twin.send(("x",)), sender.send(("y",))), (1, ("data", 1, 2, ("x",)), ("data", 1, 2, ("y",))))
+        self.assertEqual((sender.rows()[0], twin.rows()[0]), (data(1), data(1)))
         twin.had(1)
         self.assertEqual((len(sender.rows()), len(twin.rows())), (2, 1))
 
@@ -135,6 +136,7 @@ class Receivers(unittest.TestCase):
         self.take(receiver, 2, [], 0)
         self.assertEqual((receiver.rows(), twin.rows(), twin.life), (
             (1, [(2, ("body", 2)), (3, ("body", 3))]), (2, [(3, ("body", 3))]), 1))
+        self.assertEqual(twin.twin().rows(), twin.rows())
 
 
 class Channels(unittest.TestCase):

@@ -630,6 +630,15 @@ class Lives(Case):
         self.assertEqual(twin.take(self.versions, 90, 2, 1, ("inside", NAME, 1, ("answer", answer())))[1], [(NAME, ("answered", 200, 1))])
         self.assertEqual(twin.take(self.versions, 91, 2, 1, ("packet", "in", octets_of(out_packet(5001))))[1], [("opened", 2, 3)])
 
+    def test_twins_know_what_flows_have_and_what_was_cut(self):
+        self.use(services=(WEB, ("dns", DNS[1], "turns", 40)))
+        self.packet(0, ask_packet())
+        twin = self.plain.twin()
+        self.tick(TIMES[6])
+        self.assertEqual(self.plain.desk["balance"]["open"], {})
+        twin.take(self.versions, 90, TIMES[6], 1, ("tick",))
+        self.assertEqual(twin.desk["balance"], self.plain.desk["balance"])
+
     def test_what_is_told_is_not_shared(self):
         outputs, fates = self.take(0, ("packet", "in", octets_of(out_packet())))
         outputs.clear()

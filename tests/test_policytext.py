@@ -233,6 +233,11 @@ class Refusals(unittest.TestCase):
             self.line(text, 1)
             self.line("   " + text, 4)
 
+    def test_words_may_be_long(self):
+        self.line("abcdefghijklmnopqrst", 1)
+        self.line("service abcdefghijklmnopqrst", 9)
+        self.line("service abcdefghijklmnopqrst1", 29)
+
     def test_the_order_of_lines(self):
         words = ["rule (1 2 3)", "last (1 2)", "service 1", "limit 1", "times ()", "room 1", "route 1", "header 1", "error 1",
                  "trusted 1", "keep 1"]

@@ -504,6 +504,15 @@ class Readers(Case):
             self.assertEqual(reader.feed(raw("T ")), [])
             self.assertEqual(reader.place(), 1 if broken else 4)
 
+    def test_copies_of_wide_ones_are_wide(self):
+        for method, row in ((None, text("GET /" + "a" * 500 + " E/1", (HOST, ("a", "b" * 300)))),
+                            ("GET", text("E/1 200", (("a", "b" * 300),), body=(1,)))):
+            for at in (3, 300, len(row) - 20):
+                for wide in (True, False):
+                    reader = Reader(method, wide)
+                    first = reader.feed(row[:at])
+                    self.assertEqual(first + reader.copy().feed(row[at:]), Reader(method, wide).feed(row))
+
     def test_copies_go_on_by_themselves(self):
         row = text("GET /a E/1") + text("PUT / E/1", (HOST, ("a", "b")), body=(1, 2, 3)) + text("POST / E/1", pieces=((1,) * 20,))
         for method, row in ((None, row), ("GET", text("E/1 200", (("a", "b"),), pieces=((1, 2), (3,))) + [5])):

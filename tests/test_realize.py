@@ -104,7 +104,7 @@ class Plans(unittest.TestCase):
     def test_rows_that_are_none(self):
         tick = ("arrive", 0, ("tick",))
         for row in ODD + (("arrive", 0), tick + (1,), ("bring",), ("fall",), ("fall", 0, 0), ("anew", 0), ("deliver", "door", 0, 0),
-                          ("again", "door", 0), list(tick), (["fall"], 0), (None, 0), ("Fall", 0)):
+                          ("again", "door", 0), list(tick), ("x",), (["fall"], 0), (None, 0), ("Fall", 0)):
             self.refuse(Misstep, [row], "form")
             self.refuse(Misstep, [tick, row, None], "form")
 

@@ -436,6 +436,29 @@ class Failures(Case):
             self.react(12, answer(), 2)
             self.assertEqual(self.counts(), ({}, []))
 
+    def test_the_first_server_is_given_back_once(self):
+        one = ("web", (server("a"), server("b")), "marks", 50)
+        for last in ("answer", "refused", "late", "gone", "cut"):
+            self.setUp()
+            self.use(services=(one,), rules=((), (("drop",), ())), routes=(route(wait=10),))
+            where = self.ask(0)[0][0][3]
+            self.ask(0, name=(8, 0))
+            self.assertEqual(self.counts()[0], {("web", where): 2})
+            self.react(3, "refused")
+            self.assertEqual(self.counts()[0], {("web", where): 1})
+            if last == "late":
+                self.react(12, "refused", 1, (8, 0))
+                self.deed("over", 13)
+            elif last in ("gone", "cut"):
+                self.deed(last, *((4, 7) if last == "gone" else (2, 4)))
+            else:
+                self.react(4, answer() if last == "answer" else last, 2)
+            due = {"late": {}, "cut": {}}.get(last, {("web", where): 1})
+            self.assertEqual(self.counts()[0], due)
+            # The end of the request is no further end of what the first server had of it.
+            kept = {"late": 12, "cut": 4}.get(last, 3)
+            self.assertEqual(self.desk["balance"]["kept"], {("web", CLIENT): (where, kept)})
+
     def test_servers_are_given_back_at_their_own_moment(self):
         services = (("web", WEB[1], "turns", 20),)
         for word, moment, due in (("late", 30, 10), ("answer", 30, 30), ("gone", 30, 30), ("cut", 30, 30), ("refused", 30, 30)):
@@ -459,8 +482,8 @@ class Faults(Case):
         found = self.deed("fault", 0, NAME, CLIENT, "target")
         self.assertEqual(found, ([self.own("refused"), ("close", 7)], [(NAME, ("fault", "target"))]))
         self.assertEqual(told(found[0][0][2], "GET")[::2], (499, tuple(b"refused")))
-        self.assertEqual(self.deed("gone", 1, 7), ([], []))
         self.assertEqual(self.ask(name=(7, 1))[1], [((7, 1), ("unknown", 0))])
+        self.assertEqual(self.deed("gone", 1, 7), ([], []))
 
     def test_in_its_turn(self):
         self.ask()
