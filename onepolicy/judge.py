@@ -49,7 +49,7 @@ class Record:
         self.ground = ground
         self.versions = versions
         self.events = Events(ground)
-        # The rows of all that came, by their numbers; their workers, and what is neither done nor lost.
+        # The rows of all that came, by their numbers, and for each worker the numbers that are neither done nor lost.
         self.came = {}
         self.moment = 0
         self.due = [{} for _ in range(ground[3])]
@@ -59,7 +59,7 @@ class Record:
         self.plains = [Plain(ground, w, None) for w in range(ground[3])]
         self.done = [0 for _ in range(ground[3])]
         self.fallen = [0 for _ in range(ground[3])]
-        # The numbers that are to be lost next, and those of the worker that fell.
+        # The numbers that are to be lost next, as a worker fell.
         self.lost = []
 
     def word_of(self, row):

@@ -25,7 +25,7 @@ class Events:
         if not isinstance(event[0], str) or len(event) != PARTS.get(event[0], 0):
             return False
         if event[0] == "tick":
-            return (w, moment) == self.tick if self.tick is not None else w == 0
+            return w == 0 if self.tick is None else (w, moment) == self.tick
         if self.tick is not None:
             return False
         if event[0] == "packet":
@@ -60,10 +60,9 @@ class Events:
         kind, name, client, value = event
         if not is_name(name) or not is_connection(name[0]) or not is_client(client):
             return False
-        if not is_request(value, False) if kind == "request" else not isinstance(value, str):
-            return False
+        is_right = is_request(value, False) if kind == "request" else isinstance(value, str)
         connection, index = name
-        if index != self.names.get(connection, 0) or connection in self.ends:
+        if not is_right or index != self.names.get(connection, 0) or connection in self.ends:
             return False
         return self.clients.get(connection, client) == client
 
