@@ -8,7 +8,7 @@ MOST_PLAIN_SEGMENT = 20
 DIGITS = "0123456789abcdef"
 
 # The signs that stand in a printed segment as they are.
-PLAIN_SIGNS = "abcdefghijklmnopqrstuvwxyzABCDEFGHIJKLMNOPQRSTUVWXYZ0123456789-._"
+PLAIN_SIGNS = "abcdefghijklmnopqrstuvwxyzABCDEFGHIJKLMNOPQRSTUVWXYZ0123456789-_."
 
 # The parts that change the segments, and are none.
 DOTS = (".", "..")

@@ -4,7 +4,9 @@ import ast
 import builtins
 import inspect
 import importlib
+import io
 import pathlib
+import tokenize
 import unittest
 
 PACKAGE = pathlib.Path(__file__).resolve().parent.parent / "onepolicy"
@@ -179,6 +181,28 @@ def bound_names(tree):
         elif isinstance(node, ast.Name) and isinstance(node.ctx, ast.Store):
             names.append(node.id)
     return names
+
+
+def strings_of(tree):
+    """Return the strings that a tree writes, the parts of f-strings among them."""
+    return [node.value for node in ast.walk(tree) if isinstance(node, ast.Constant) and isinstance(node.value, str)]
+
+
+def literals_of(text):
+    """Return the strings that a text writes: those that stand side by side as one, and each literal by itself."""
+    found = strings_of(ast.parse(text))
+    for token in tokenize.generate_tokens(io.StringIO(text).readline):
+        if token.type == tokenize.STRING:
+            found += strings_of(ast.parse(token.string, mode="eval"))
+        # From Python 3.12 on, an f-string is no token, but each of its parts is one.
+        elif tokenize.tok_name[token.type] == "FSTRING_MIDDLE":
+            found.append(token.string)
+    return found
+
+
+def barred_endings(text):
+    """Return the strings of a text that end as no literal may."""
+    return [literal for literal in literals_of(text) if literal.endswith(("._", ".__"))]
 
 
 class Files(unittest.TestCase):
@@ -417,6 +441,17 @@ class Forms(unittest.TestCase):
                     self.assertNotIn("%", node.value, path.name)
                     for word in BARRED_WORDS:
                         self.assertNotIn(word, node.value.split(), path.name)
+
+    def test_no_string_ends_as_none_may(self):
+        for path in files():
+            self.assertEqual(barred_endings(path.read_text()), [], path.name)
+
+    def test_barred_endings_are_found(self):
+        for line in ('A = "._"', "A = '-.__'", 'A = """a._"""', 'A = ("a", {"b._": 1})', 'A = "a." "_"', 'A = "a._" "b"',
+                     'A = f"{B}._"', 'A = f"a._" "b"', 'A = "a.\\x5f"', '"""Told._"""', 'def a():\n    "Told.__"'):
+            self.assertNotEqual(barred_endings(line + "\n"), [], line)
+        for line in ('A = "-_."', 'A = "._-"', 'A = "._ "', 'A = "_"', 'A = "a_"', 'A = f"{B}._a"', "A = 1  # ._", 'A = B._c'):
+            self.assertEqual(barred_endings(line + "\n"), [], line)
 
     def test_every_function_but_small_helpers_has_a_docstring(self):
         for path, tree in trees():

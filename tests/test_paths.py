@@ -1,6 +1,7 @@
 """Points 520 to 524: targets, their normal forms, their printing, and segments."""
 
 import random
+import string
 import unittest
 
 from onepolicy.errors import Unfit
@@ -10,7 +11,10 @@ from samples import calm
 from table_samples import ODD
 
 SIGNS = "".join(chr(number) for number in range(32, 127) if number != 37)
-PLAIN = "abcdefghijklmnopqrstuvwxyzABCDEFGHIJKLMNOPQRSTUVWXYZ0123456789-._"
+PLAIN = string.ascii_lowercase + string.ascii_uppercase + string.digits + "-_."
+
+# The digits of all signs that may stand in a segment, but not as they are.
+OTHERS = "20 21 22 23 24 26 27 28 29 2A 2B 2C 3A 3B 3C 3D 3E 3F 40 5B 5D 5E 60 7B 7C 7D 7E".split()
 
 
 def normal_by_words(target):
@@ -161,6 +165,24 @@ class Print(unittest.TestCase):
                 shown = sign if sign in PLAIN else "~" + format(ord(sign), "02X")
                 self.check((("a" + sign,), False, None), "/a" + shown)
         self.check((("~41", " ", "..."), False, None), "/~7E41/~20/...")
+
+    def check_sign(self, sign, shown):
+        """Check how a sign is printed: alone and at each place of a segment, in one segment and among others."""
+        for form in ("#", "##", "#a", "a#", "a#a", "#a#"):
+            segment, due = form.replace("#", sign), form.replace("#", shown)
+            if segment not in (".", ".."):
+                self.check(((segment,), False, None), "/" + due)
+                self.check((("b", segment, "b"), True, "q"), "/b/" + due + "/b/?q")
+
+    def test_plain_signs_stand_as_they_are(self):
+        self.assertEqual(len(set(PLAIN)), 26 + 26 + 10 + 3)
+        for sign in PLAIN:
+            self.check_sign(sign, sign)
+
+    def test_other_signs_stand_as_their_digits(self):
+        self.assertEqual(sorted(PLAIN + "/\\" + "".join(chr(int(word, 16)) for word in OTHERS)), sorted(SIGNS))
+        for word in OTHERS:
+            self.check_sign(chr(int(word, 16)), "~" + word)
 
     def test_it_may_be_longer_than_a_target(self):
         self.check((("!" * 380,) * 3, False, None), "/" + "/".join(["~21" * 380] * 3))
